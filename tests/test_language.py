@@ -18,6 +18,14 @@ INTERFACE = {
     "lexemes": {"lexemes": ["text"]},
     "sheettexts": {"sheet_text": ["sheet"], "row_text": ["row"], "gifts_text": ["gifts"], "read_row": ["text"],
                    "read_gifts": ["text"], "read_sheet": ["text"]},
+    "gifts": {"gifts_fault": ["yard", "row", "value"], "loads_of": ["yard", "gifts"], "given_of": ["yard", "gifts"],
+              "left_of": ["gifts"], "full_of": ["yard", "gifts"]},
+    "kinds": {"kinds_of": ["row"], "row_of": ["kinds"], "carried": ["row", "gifts", "other"]},
+    "ways": {"ways_between": ["one", "other"], "done": ["one", "other", "ways"],
+             "judge_ways": ["one", "other", "value"], "steps_along": ["one", "other", "ways"]},
+    "most": {"best_gifts": ["yard", "row"], "most_given": ["yard", "row"], "most_so_far": ["yard", "row"]},
+    "chains": {"chain_for": ["yard", "row", "gifts"], "gain": ["yard", "gifts", "chain"],
+               "chain_done": ["gifts", "chain"], "judge_chain": ["yard", "row", "gifts", "value"]},
 }
 BARRED = ("type typing typing_extensions enum Enum IntEnum StrEnum Flag IntFlag Generic Protocol ABC ABCMeta "
           "namedtuple NamedTuple TypedDict TYPE_CHECKING abstractmethod").split()
@@ -26,7 +34,8 @@ NEVER_NAMES = ("register mro elements open input law version_info with_traceback
                "locals methodcaller os quit super type vars sys").split()
 BUILTINS = set("""len range enumerate zip min max sum abs sorted reversed int str bool bytes list tuple dict set
 frozenset isinstance ord repr any all divmod pow getattr hasattr setattr iter next map Exception ValueError TypeError
-KeyError IndexError LookupError ZeroDivisionError ArithmeticError OverflowError RuntimeError NotImplementedError AttributeError
+KeyError IndexError LookupError ZeroDivisionError ArithmeticError OverflowError RuntimeError NotImplementedError
+AttributeError
 StopIteration NotImplemented""".split())
 METHODS = set("""append clear copy count endswith extend find get index insert isalnum isalpha isdigit islower isspace
 isupper items join keys ljust lower lstrip partition pop remove replace reverse rfind rjust rpartition rsplit rstrip
