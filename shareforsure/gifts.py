@@ -38,6 +38,11 @@ def full_of(yard, gifts):
     return [house for house, load in enumerate(loads_of(yard, gifts)) if load == yard[0]]
 
 
+def is_let(c, loads, request, gift):
+    """Whether a gift, which may be anything, is None, or a house that the request names and that has room."""
+    return gift is None or (is_number(gift) and gift in request and loads[gift] < c)
+
+
 def _is_form(row, value):
     if not isinstance(value, tuple) or len(value) != len(row):
         return False

@@ -4,6 +4,7 @@ A fault is the path to the first wrong part of a value, () for the value itself,
 """
 
 from shareforsure.errors import BadTree, UnknownName
+from shareforsure.gifts import is_let
 from shareforsure.words import is_name, is_number
 
 PART_WORDS = ("row", "gifts", "cover", "giver")
@@ -98,7 +99,8 @@ def _row_fault(yard, value):
     return _members_fault(value, lambda request: _request_fault(yard, request))
 
 
-def _loads_fault(yard, value):
+def loads_fault(yard, value):
+    """The fault of what should be loads of a yard."""
     c, worths = yard
     if not _is_tuple_of(len(worths), value):
         return ()
@@ -110,17 +112,11 @@ def _case_fault(yard, value):
     if not _is_tuple_of(2, value):
         return ()
     loads, request = value
-    fault = _loads_fault(yard, loads)
+    fault = loads_fault(yard, loads)
     if fault is not None:
         return (0,) + fault
     fault = _request_fault(yard, request)
     return None if fault is None else (1,) + fault
-
-
-def _is_gift_at(yard, case, gift):
-    """Whether a gift is None, or a house that the request of a right case names and that has room there."""
-    loads, request = case
-    return gift is None or (is_number(gift) and gift in request and loads[gift] < yard[0])
 
 
 def _entry_fault(yard, value, before):
@@ -133,7 +129,8 @@ def _entry_fault(yard, value, before):
         return (0,) + fault
     if before is not None and case <= before:
         return (0,)
-    return None if _is_gift_at(yard, case, gift) else (1,)
+    loads, request = case
+    return None if is_let(yard[0], loads, request, gift) else (1,)
 
 
 def _table_fault(yard, value):

@@ -23,3 +23,8 @@ def is_name(value):
 def is_number(value):
     """Whether a value, which may be anything, is a number: an integer of at least 0, not True or False."""
     return isinstance(value, int) and not isinstance(value, bool) and value >= 0
+
+
+def are_numbers(value, many):
+    """Whether a value, which may be anything, is a tuple of so many numbers."""
+    return isinstance(value, tuple) and len(value) == many and all([is_number(member) for member in value])

@@ -92,6 +92,91 @@ def all_gifts(yard, row):
             yield gifts
 
 
+def most_by_places(yard, row):
+    """The most, told another way: place by place of the houses, those of the greatest worths first (S3.4)."""
+    c, worths = yard
+    naming = [[at for at, request in enumerate(row) if house in request] for house in range(len(worths))]
+    owner, held, most = {}, {}, 0
+    for house in sorted(range(len(worths)), key=lambda at: -worths[at]):
+        for number in range(c):
+            if not fills((house, number), naming, owner, held):
+                break
+            most += worths[house]
+    return most
+
+
+def fills(place, naming, owner, held):
+    """Whether one place more can have a request, others being moved, which is done then."""
+    came, waiting = {}, [place]
+    for now in waiting:
+        for request in naming[now[0]]:
+            if request in came:
+                continue
+            came[request] = now
+            if request in owner:
+                waiting.append(owner[request])
+                continue
+            while request is not None:
+                now = came[request]
+                owner[request] = now
+                held[now], request = request, held.get(now)
+            return True
+    return False
+
+
+def deep(value, depth=38):
+    """A value within so many tuples."""
+    for _ in range(depth):
+        value = (value,)
+    return value
+
+
+def put(value, at, member):
+    """A tuple with another member at a place."""
+    return value[:at] + (member,) + value[at + 1:]
+
+
+class Scripted:
+    """A giver that returns what a function tells of the request, the houses with room, and the loads.
+
+    The loads, and the requests that it was asked, are kept to be looked at.
+    """
+
+    def __init__(self, c, houses, tell):
+        self.c = c
+        self.loads = [0] * houses
+        self.asked = []
+        self.tell = tell
+
+    def give(self, request):
+        self.asked.append(request)
+        gift = self.tell(request, [house for house in request if self.loads[house] < self.c], self.loads)
+        if isinstance(gift, int) and not isinstance(gift, bool) and 0 <= gift < len(self.loads):
+            self.loads[gift] += 1
+        return gift
+
+
+def by_share(c):
+    """D and E of a room."""
+    return (c + 1) ** c - c ** c, (c + 1) ** c
+
+
+def told_by_hand(yard, row):
+    """What the told giver gives, by the formulas of S4.2 and S4.3."""
+    c, worths = yard
+    sure, _ = by_share(c)
+    loads = [0] * len(worths)
+    gifts = []
+    for request in row:
+        pulls = [(worths[house] * (sure - (c + 1) ** loads[house] * c ** (c - loads[house]) + c ** c), -house)
+                 for house in request]
+        best, house = max(pulls, default=(0, 0))
+        gifts.append(-house if best > 0 else None)
+        if best > 0:
+            loads[-house] += 1
+    return tuple(gifts)
+
+
 def tables(rng, yard, many):
     """A table of at most so many pairs."""
     c, worths = yard

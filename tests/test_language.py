@@ -26,7 +26,20 @@ INTERFACE = {
     "most": {"best_gifts": ["yard", "row"], "most_given": ["yard", "row"], "most_so_far": ["yard", "row"]},
     "chains": {"chain_for": ["yard", "row", "gifts"], "gain": ["yard", "gifts", "chain"],
                "chain_done": ["gifts", "chain"], "judge_chain": ["yard", "row", "gifts", "value"]},
+    "covers": {"cover": ["yard", "row"], "cover_price": ["yard", "cover"], "judge_cover": ["yard", "row", "value"]},
+    "reached": {"gifts_with": ["yard", "row", "loads"], "bar_for": ["yard", "row", "loads"]},
+    "ranks": {"no_ranks": ["n"], "ranks_after": ["c", "n", "ranks", "request"], "ranks_of": ["c", "n", "row"],
+              "most_by": ["yard", "ranks"]},
+    "givers": {"ToldGiver": ["yard"], "CallGiver": ["call"], "RowGiver": ["gifts"], "run": ["giver", "row"]},
+    "rises": {"rise": ["c", "load"], "share": ["c"], "pull": ["yard", "house", "load"]},
+    "shares": {"told_gifts": ["yard", "row"], "pull_paper": ["yard", "row"], "told_account": ["yard", "row"],
+               "share_room": ["yard", "row"]},
 }
+CLASS_METHODS = {
+    "givers": {"ToldGiver": {"give": ["request"], "loads": []}, "CallGiver": {"give": ["request"]},
+               "RowGiver": {"give": ["request"]}},
+}
+LIBRARY = {"math": ["gcd"]}
 BARRED = ("type typing typing_extensions enum Enum IntEnum StrEnum Flag IntFlag Generic Protocol ABC ABCMeta "
           "namedtuple NamedTuple TypedDict TYPE_CHECKING abstractmethod").split()
 NEVER_NAMES = ("register mro elements open input law version_info with_traceback add_note attrgetter breakpoint "
@@ -75,6 +88,15 @@ class Interface(unittest.TestCase):
                     self.assertEqual([], node.args.defaults, name)
 
 
+    def test_each_method_is_defined_in_its_class(self):
+        for module, classes in CLASS_METHODS.items():
+            for node in tree_of(FOLDER / (module + ".py")).body:
+                if isinstance(node, ast.ClassDef) and node.name in classes:
+                    told = {row.name: [part.arg for part in row.args.args[1:]] for row in node.body
+                            if isinstance(row, ast.FunctionDef) and row.name != "__init__"}
+                    self.assertEqual(classes[node.name], told, node.name)
+
+
 class Language(unittest.TestCase):
     def test_the_folder_has_plain_files_alone(self):
         names = [path.name for path in FOLDER.iterdir() if path.name != "__pycache__"]
@@ -96,7 +118,11 @@ class Language(unittest.TestCase):
         for file in FILES:
             for node in ast.walk(tree_of(file)):
                 self.assertNotIsInstance(node, ast.Import, file)
-                if isinstance(node, ast.ImportFrom):
+                if isinstance(node, ast.ImportFrom) and node.module in LIBRARY:
+                    for alias in node.names:
+                        self.assertIsNone(alias.asname)
+                        self.assertIn(alias.name, LIBRARY[node.module])
+                elif isinstance(node, ast.ImportFrom):
                     self.assertEqual(0, node.level, file)
                     package, module = node.module.split(".")
                     self.assertEqual("shareforsure", package)
@@ -109,7 +135,7 @@ class Language(unittest.TestCase):
 
     def test_no_two_files_import_from_each_other(self):
         ahead = {file.stem: [node.module.split(".")[1] for node in tree_of(file).body
-                             if isinstance(node, ast.ImportFrom)] for file in FILES}
+                             if isinstance(node, ast.ImportFrom) and node.module not in LIBRARY] for file in FILES}
         while ahead:
             free = [stem for stem in ahead if not any(other in ahead for other in ahead[stem])]
             self.assertTrue(free, ahead)

@@ -2,44 +2,12 @@
 
 import unittest
 
-from helper import Case, all_gifts, requests, rng_of, rows, yards
+from helper import Case, all_gifts, most_by_places, requests, rng_of, rows, yards
 from shareforsure.gifts import gifts_fault, given_of
 from shareforsure.most import best_gifts, most_given, most_so_far
 
 Y = (1, (3, 1, 1))
 R = ((0, 1), (0, 2), (0,))
-
-
-def most_by_places(yard, row):
-    """The most, told another way: place by place of the houses, those of the greatest worths first (S3.4)."""
-    c, worths = yard
-    naming = [[at for at, request in enumerate(row) if house in request] for house in range(len(worths))]
-    owner, held, most = {}, {}, 0
-    for house in sorted(range(len(worths)), key=lambda at: -worths[at]):
-        for number in range(c):
-            if not fills((house, number), naming, owner, held):
-                break
-            most += worths[house]
-    return most
-
-
-def fills(place, naming, owner, held):
-    """Whether one place more can have a request, others being moved, which is done then."""
-    came, waiting = {}, [place]
-    for now in waiting:
-        for request in naming[now[0]]:
-            if request in came:
-                continue
-            came[request] = now
-            if request in owner:
-                waiting.append(owner[request])
-                continue
-            while request is not None:
-                now = came[request]
-                owner[request] = now
-                held[now], request = request, held.get(now)
-            return True
-    return False
 
 
 class Small(Case):
