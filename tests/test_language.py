@@ -34,6 +34,18 @@ INTERFACE = {
     "rises": {"rise": ["c", "load"], "share": ["c"], "pull": ["yard", "house", "load"]},
     "shares": {"told_gifts": ["yard", "row"], "pull_paper": ["yard", "row"], "told_account": ["yard", "row"],
                "share_room": ["yard", "row"]},
+    "players": {"player_sizes": ["c"], "levels": ["c", "sizes"], "bound_of": ["c", "sizes"], "best_sizes": ["c", "n"],
+                "play": ["c", "sizes", "giver"]},
+    "plays": {"judge_play": ["c", "sizes", "value"], "play_account": ["c", "sizes", "play"],
+              "play_room": ["c", "sizes", "play"]},
+    "tables": {"requests_of": ["yard"], "told_table": ["yard"], "greedy_table": ["yard"],
+               "table_gifts": ["yard", "table", "row"]},
+    "standings": {"first_standing": ["yard"], "standing_behind": ["yard", "table", "standing", "request"],
+                  "given_of": ["yard", "standing"], "most_of": ["yard", "standing"], "standings": ["yard", "table"]},
+    "leastshares": {"least_share": ["yard", "table"], "kept_paper": ["yard", "table", "p", "q"],
+                    "met_row": ["yard", "table", "p", "q"], "late_paper": ["yard", "table", "p", "q", "m"],
+                    "judge_kept": ["yard", "table", "p", "q", "value"],
+                    "judge_late": ["yard", "table", "p", "q", "m", "value"]},
 }
 CLASS_METHODS = {
     "givers": {"ToldGiver": {"give": ["request"], "loads": []}, "CallGiver": {"give": ["request"]},
