@@ -1,11 +1,14 @@
-"""The forms of texts: what is read is kept as short as it is told, counted, and then told in full.
+"""The forms of texts: what is read is kept as short as it is told, counted, judged, and then told in full.
 
 A run is a pair (value, times), a span a pair (first, last), a lot a pair (spans, times), a case a
-triple (loads, spans, gift). Nothing is told in full before it is counted, as numerals may be great.
+triple (loads, spans, gift). Nothing is told in full before it is counted, as numerals may be great;
+and what is told as one is judged as one, as there may be very many of it.
 """
 
 from shareforsure.errors import BadText
+from shareforsure.gifts import is_let
 from shareforsure.lexemes import lexemes_until
+from shareforsure.sheets import loads_fault
 
 
 class Reader:
@@ -219,27 +222,118 @@ def _cases_many(cases):
     return sum([len(loads) + _spans_many(spans) for loads, spans, _ in cases])
 
 
+def read_sheet_fault(c, worths, parts):
+    """The path to the first wrong part of the sheet that is told by what was read, or None if all is right."""
+    if c == 0:
+        return (0, 0)
+    if runs_many(worths) == 0:
+        return (0, 1)
+    fault = _runs_fault(worths, lambda worth: () if worth == 0 else None)
+    if fault is not None:
+        return (0, 1) + fault
+    fault = _parts_fault((c, told_runs(worths)), parts)
+    return None if fault is None else (1,) + fault
+
+
+def _parts_fault(yard, parts):
+    earlier = {}
+    for at, (word, name, value) in enumerate(parts):
+        if name in earlier:
+            return (at, 1)
+        judge = PART_JUDGES[word]
+        fault = judge(yard, value)
+        if fault is not None:
+            return (at, 2) + fault
+        earlier[name] = True
+    return None
+
+
+def _runs_fault(runs, value_fault):
+    """The path to the first wrong one of what runs, or lots, tell, by a function that tells the fault of a value."""
+    at = 0
+    for value, times in runs:
+        fault = None if times == 0 else value_fault(value)
+        if fault is not None:
+            return (at,) + fault
+        at += times
+    return None
+
+
+def _lots_fault(yard, lots):
+    return _runs_fault(lots, lambda spans: _spans_fault(yard, spans))
+
+
+def _spans_fault(yard, spans):
+    """The path to the first house of a request that is none, or not greater than the one ahead."""
+    houses = len(yard[1])
+    at = 0
+    least = 0
+    for first, last in spans:
+        if last < first:
+            continue
+        if not least <= first < houses:
+            return (at,)
+        if last >= houses:
+            return (at + houses - first,)
+        at += last - first + 1
+        least = last + 1
+    return None
+
+
+def _gift_runs_fault(yard, runs):
+    return _runs_fault(runs, lambda gift: None if gift is None or gift < len(yard[1]) else ())
+
+
+def _cover_fault(_, cover):
+    """None: what numerals tell are numbers, and a cover may have any."""
+    return None
+
+
+def _cases_fault(yard, cases):
+    before = None
+    for at, (loads, spans, gift) in enumerate(cases):
+        fault = _case_fault(yard, tuple(loads), spans)
+        if fault is not None:
+            return (at, 0) + fault
+        case = (tuple(loads), told_request(spans))
+        if before is not None and case <= before:
+            return (at, 0)
+        if not is_let(yard[0], case[0], case[1], gift):
+            return (at, 1)
+        before = case
+    return None
+
+
+def _case_fault(yard, loads, spans):
+    fault = loads_fault(yard, loads)
+    if fault is not None:
+        return (0,) + fault
+    fault = _spans_fault(yard, spans)
+    return None if fault is None else (1,) + fault
+
+
 def told_runs(runs):
     """The tuple of what runs, or gift runs, tell."""
-    told = []
-    for value, times in runs:
-        told += [value] * times
-    return tuple(told)
+    return _put_together([(value,) * times for value, times in runs])
 
 
 def told_request(spans):
     """The request, a tuple, that spans tell."""
-    return tuple([house for first, last in spans for house in range(first, last + 1)])
+    return _put_together([tuple(range(first, last + 1)) for first, last in spans])
 
 
 def told_lots(lots):
     """The row that lots tell."""
-    told = []
-    for spans, times in lots:
-        # What is told no times may have any number of houses, which count nothing.
-        if times > 0:
-            told += [told_request(spans)] * times
-    return tuple(told)
+    # What is told no times may have any number of houses, which count nothing.
+    return _put_together([(told_request(spans),) * times for spans, times in lots if times > 0])
+
+
+def _put_together(pieces):
+    """Tuples one behind another: pair by pair, as each one more at a time would copy the first ones each time."""
+    while len(pieces) > 1:
+        paired = [first + second for first, second in zip(pieces[::2], pieces[1::2])]
+        pieces = paired + pieces[2 * len(paired):]
+    return pieces[0] if pieces else ()
 
 
 def told_part(part):
@@ -260,4 +354,5 @@ def _told_cases(cases):
 
 PART_READERS = {"row": read_lots, "gifts": read_gift_runs, "cover": _read_cover, "giver": _read_cases}
 PART_COUNTS = {"row": lots_many, "gifts": runs_many, "cover": _cover_many, "giver": _cases_many}
+PART_JUDGES = {"row": _lots_fault, "gifts": _gift_runs_fault, "cover": _cover_fault, "giver": _cases_fault}
 PART_TELLERS = {"row": told_lots, "gifts": told_runs, "cover": _told_cover, "giver": _told_cases}

@@ -1,9 +1,8 @@
 """Sheets, rows and gifts as texts: how they are written, and what a text tells."""
 
-from shareforsure.errors import TooGreat
-from shareforsure.forms import (Reader, lots_many, part_many, read_gift_runs, read_lots, read_sheet_form,
-                                runs_many, told_lots, told_part, told_runs)
-from shareforsure.sheets import check_sheet
+from shareforsure.errors import BadTree, TooGreat
+from shareforsure.forms import (Reader, lots_many, part_many, read_gift_runs, read_lots, read_sheet_fault,
+                                read_sheet_form, runs_many, told_lots, told_part, told_runs)
 
 MOST_MEMBERS = 100000
 NO_BLANK_AHEAD = (";", ":", ",", "]", "}")
@@ -35,9 +34,10 @@ def read_sheet(text):
     c, worths, parts = read_sheet_form(reader)
     reader.finish()
     _check_many(runs_many(worths) + sum([part_many(part) for part in parts]))
-    sheet = (c, told_runs(worths)), tuple([told_part(part) for part in parts])
-    check_sheet(sheet)
-    return sheet
+    fault = read_sheet_fault(c, worths, parts)
+    if fault is not None:
+        raise BadTree(fault)
+    return (c, told_runs(worths)), tuple([told_part(part) for part in parts])
 
 
 def read_row(text):

@@ -159,6 +159,148 @@ class Telling(Case):
         self.tells(((2, (1, 1)), (("cover", "a", ((7,), (8, 8))),)), read_sheet, ahead + "cover a 7 / 8 x 2; }")
 
 
+class Members(Case):
+    """What one run, one lot or one span tells is judged as if each member stood there by itself."""
+
+    def judged(self, text, told):
+        wanted = outcome(check_sheet, told)
+        if wanted[0] == "value":
+            wanted = ("value", told)
+        self.assertEqual(repr(wanted), repr(self.same(read_sheet, text)))
+
+    def test_texts_that_tell_nearly_too_much(self):
+        nine = (1, (1,) * 9)
+        ahead = "sheet{room 1;houses 1 x 9;"
+        for text, part in (("cover v 1/0 x 99990;", ("cover", "v", ((1,), (0,) * 99990))),
+                           ("cover v 0 x 99990/1;", ("cover", "v", ((0,) * 99990, (1,)))),
+                           ("gifts g none x 99991;", ("gifts", "g", (None,) * 99991)),
+                           ("gifts g 8 x 99991;", ("gifts", "g", (8,) * 99991)),
+                           ("gifts g 8 x 99990, 9;", ("gifts", "g", (8,) * 99990 + (9,))),
+                           ("gifts g none x 9, 9 x 99982;", ("gifts", "g", (None,) * 9 + (9,) * 99982)),
+                           ("giver v{0:[0 to 99989]->none};", ("giver", "v", ((((0,), tuple(range(99990))), None),))),
+                           ("row r[0 to 8] x 9999;", ("row", "r", (tuple(range(9)),) * 9999)),
+                           ("row r[] x 99991;", ("row", "r", ((),) * 99991)),
+                           ("row r[] x 50000[9 to 5] x 49991;", ("row", "r", ((),) * 99991)),
+                           ("row r[] x 50000[9] x 24995;", ("row", "r", ((),) * 50000 + ((9,),) * 24995)),
+                           ("row r[0 to 99989];", ("row", "r", (tuple(range(99990)),))),
+                           ("row r[3 9 to 99997];", ("row", "r", ((3, *range(9, 99998)),)))):
+            self.judged(ahead + text + "}", (nine, (part,)))
+
+    def test_great_houses(self):
+        self.judged("sheet{room 2;houses 7 x 100000;}", ((2, (7,) * 100000), ()))
+        self.judged("sheet{room 2;houses 7 x 99999, 0;}", ((2, (7,) * 99999 + (0,)), ()))
+        self.judged("sheet{room 2;houses 7 x 50, 0 x 99950;}", ((2, (7,) * 50 + (0,) * 99950), ()))
+        self.judged("sheet{room 2;houses 0 x 0, 7 x 9, 0 x 0;}", ((2, (7,) * 9), ()))
+        great = (1, (1,) * 49999)
+        for text, request in (("[0 to 49998]", tuple(range(49999))), ("[0 to 49999]", tuple(range(50000))),
+                              ("[0 to 20000 20000 to 30000]", (*range(20001), *range(20000, 30001))),
+                              ("[0 to 20000 20001 to 49998]", tuple(range(49999)))):
+            self.judged("sheet{room 1;houses 1 x 49999;row r" + text + ";}", (great, (("row", "r", (request,)),)))
+
+    def test_rows_and_gifts_by_themselves(self):
+        self.tells((tuple(range(99999)),), read_row, "[0 to 99998]")
+        self.tells(((),) * 100000, read_row, "[5 to 4] x 100000")
+        self.tells(((5, 6), (5, 6), (7,)), read_row, "[5 to 6] x 2 [9 to 8 7]")
+        self.tells((None,) * 100000, read_gifts, "none x 100000")
+        self.tells((None,) * 40000 + (3,) * 60000, read_gifts, "none x 40000, 3 x 60000")
+        for many in range(1, 40):
+            self.tells(tuple(range(many)), read_gifts, ", ".join(str(house) for house in range(many)))
+        self.tells(tuple(house for house in range(9) for _ in range(house)), read_gifts,
+                   ", ".join(f"{house} x {house}" for house in range(9)))
+
+    def test_requests_by_spans(self):
+        for spans, request in (("0 to 2", (0, 1, 2)), ("0 to 3", (0, 1, 2, 3)), ("3", (3,)), ("2 to 9", (2, *range(3, 10))),
+                               ("0 1 to 2", (0, 1, 2)), ("0 0 to 2", (0, 0, 1, 2)), ("0 to 1 1", (0, 1, 1)),
+                               ("1 0", (1, 0)), ("2 to 1 0", (0,)), ("9 to 8", ()), ("1 9 to 8 2", (1, 2)),
+                               ("1 9 to 8 1", (1, 1)), ("0 to 1 3 to 4", (0, 1, 3, 4)), ("0 to 2 1", (0, 1, 2, 1))):
+            row = ((), request, (0,), request)
+            text = f"sheet{{room 1;houses 1 x 3;row r[][{spans}][0][{spans}];}}"
+            self.judged(text, ((1, (1,) * 3), (("row", "r", row),)))
+            self.judged(f"sheet{{room 1;houses 1 x 3;giver r{{0 1 0:[{spans}]->none}};}}",
+                        ((1, (1,) * 3), (("giver", "r", ((((0, 1, 0), request), None),)),)))
+
+    def test_nearly_right_sheets(self):
+        rng = rng_of(37)
+        found = {}
+        for _ in range(2500):
+            lexemes, told = self.nearly_right(rng)
+            self.judged(spaced(rng, lexemes), told)
+            fault = outcome(check_sheet, told)
+            word = fault[1]["path"][1:2] if fault[0] == "BadTree" else None
+            found[fault[0], word and told[1][word[0]][0] if word and fault[1]["path"][0] == 1 else word] = True
+        self.assertLessEqual({("value", None), ("BadTree", (1,)), ("BadTree", "row"), ("BadTree", "gifts"),
+                              ("BadTree", "giver")}, set(found))
+
+    def nearly_right(self, rng):
+        """The lexemes of a text, and the sheet or nearly a sheet that it tells."""
+        c, worths = rng.randint(1, 3), []
+        found = ["sheet", "{", "room", str(c), ";", "houses"]
+        for _ in range(rng.randint(1, 2)):
+            worth, times = rng.choice([0, 1, 1, 2, 2, 3, 3, 4, 4, 5]), rng.randint(0 if worths else 1, 2)
+            found += ([","] if found[-1] != "houses" else []) + [str(worth), "x", str(times)]
+            worths += [worth] * times
+        found.append(";")
+        parts = []
+        for name in rng.sample(["a", "b", "c"], rng.randint(1, 3)) + ([] if rng.random() < 0.9 else ["a"]):
+            word = rng.choice(["row", "gifts", "cover", "giver", "giver"])
+            more, value = getattr(self, word)(rng, c, len(worths))
+            found += [word, name, *more, ";"]
+            parts.append((word, name, value))
+        return found + ["}"], ((c, tuple(worths)), tuple(parts))
+
+    def house(self, rng, houses):
+        return rng.randrange(houses + (rng.random() < 0.08))
+
+    def request(self, rng, houses):
+        found, told = ["["], []
+        least = 0
+        while least < houses and rng.random() < 0.8:
+            first = rng.randint(least, houses - 1) if rng.random() < 0.93 else self.house(rng, houses)
+            last = rng.randint(first, houses - 1 if rng.random() < 0.93 else houses + 2) if first < houses else first
+            found += [str(first), "to", str(last)]
+            told += range(first, last + 1)
+            least = last + 1
+        return found + ["]"], tuple(told)
+
+    def row(self, rng, _, houses):
+        found, told = [], ()
+        for _ in range(rng.randint(0, 3)):
+            request, value = self.request(rng, houses)
+            times = rng.randint(0, 3)
+            found += request + ["x", str(times)]
+            told += (value,) * times
+        return found, told
+
+    def gifts(self, rng, _, houses):
+        found, told = [], ()
+        for _ in range(rng.randint(0, 3)):
+            gift, times = rng.choice([None, self.house(rng, houses)]), rng.randint(0, 3)
+            found += ([","] if found else []) + ["none" if gift is None else str(gift), "x", str(times)]
+            told += (gift,) * times
+        return found, told
+
+    def cover(self, rng, _, __):
+        number, times = rng.randint(0, 9), rng.randint(0, 3)
+        return [str(number), "x", str(times), "/"], ((number,) * times, ())
+
+    def giver(self, rng, c, houses):
+        cases = []
+        for _ in range(rng.randint(0, 3)):
+            loads = tuple(rng.randint(0, c if rng.random() < 0.97 else c + 1) for _ in range(houses))
+            if rng.random() < 0.03:
+                loads += (0,)
+            lexemes, request = self.request(rng, houses)
+            gift = rng.choice([None, *request[:2], self.house(rng, houses)])
+            cases.append((loads, request, gift, lexemes))
+        if rng.random() < 0.85:
+            cases.sort(key=lambda case: case[:2])
+        found = []
+        for loads, _, gift, lexemes in cases:
+            found += ["{", *[str(load) for load in loads], ":", *lexemes, "->"]
+            found += ["none" if gift is None else str(gift), "}"]
+        return found, tuple(((loads, request), gift) for loads, request, gift, _ in cases)
+
+
 class WrongPlaces(Case):
     def test_those_of_the_document(self):
         self.fails("BadText", {"place": 8}, read_sheet, "sheet { }")
