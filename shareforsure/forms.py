@@ -319,7 +319,7 @@ def told_runs(runs):
 
 def told_request(spans):
     """The request, a tuple, that spans tell."""
-    return _put_together([tuple(range(first, last + 1)) for first, last in spans])
+    return _put_together([(first,) if first == last else tuple(range(first, last + 1)) for first, last in spans])
 
 
 def told_lots(lots):
