@@ -73,7 +73,7 @@ def best_sizes(c, n):
             if behind not in greatest or level > greatest[behind]:
                 greatest[behind] = level
                 ahead[behind] = size
-    last = max(range(1, n + 1), key=lambda size: greatest[size])
+    last = max(list(greatest), key=lambda size: greatest[size])
     sizes = []
     while last is not None:
         sizes.append(last)

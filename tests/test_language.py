@@ -214,6 +214,13 @@ class Language(unittest.TestCase):
                         if isinstance(sign, (ast.Is, ast.IsNot)):
                             self.assertIn(ast.unparse(side), ("None", "True", "False"), file)
 
+    def test_max_and_min_with_a_key_take_lists(self):
+        for file in FILES:
+            for node in ast.walk(tree_of(file)):
+                if isinstance(node, ast.Call) and isinstance(node.func, ast.Name) and node.func.id in ("max", "min"):
+                    if "key" in [part.arg for part in node.keywords]:
+                        self.assertNotRegex(ast.unparse(node.args[0]), r"^(range|zip|enumerate|reversed)\(", file)
+
     def test_modules_hold_plain_values_alone(self):
         for file in FILES:
             for node in tree_of(file).body:

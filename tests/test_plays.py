@@ -105,7 +105,8 @@ class Faults(Case):
         self.wrong(("request", 4), (put(row, 4, (2,)), gifts))
         self.wrong(("request", 5), (put(row, 5, (0, 2)), gifts))
         self.wrong(("request", 6), (row + ((0,),), gifts + (None,)))
-        self.wrong(("request", 6), (row + ((),), gifts + (None,)))
+        for more in ((), None, row[5:], True):
+            self.wrong(("request", 6), (row + (more,), gifts + (None,)))
         # What is made by other gifts: A[1] are 0 and 1 then.
         self.wrong(("request", 2), (row, put(gifts, 0, 1)))
         for odd in ([0, 1, 2], (0, True, 2), (False, 1, 2), (0, 1, "2"), (0, 1), {}, None, True, "012", ((0,), 1, 2)):
