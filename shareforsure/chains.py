@@ -1,13 +1,13 @@
 """Chains for gifts: how gifts that are not best are led on to greater ones."""
 
-from shareforsure.gifts import left_of
-from shareforsure.words import is_number
+from shareforsure.gifts import held_of, left_of
+from shareforsure.words import is_number, is_tuple_of
 
 
 def chain_for(yard, row, gifts):
     """A chain with a gain above 0, or None if there is none, the gifts being best then."""
     worths = yard[1]
-    held = _held(yard, gifts)
+    held = held_of(yard, gifts)
     led = _led_on(row, held, {}, left_of(gifts))
     house = _best_with_room(yard, held, led)
     if house is not None:
@@ -26,7 +26,7 @@ def chain_for(yard, row, gifts):
 
 def chain_from(yard, row, gifts, request):
     """The chain of the greatest gain that begins with a request that is not given, or None if there is none."""
-    held = _held(yard, gifts)
+    held = held_of(yard, gifts)
     led = _led_on(row, held, {}, [request])
     house = _best_with_room(yard, held, led)
     return None if house is None else _chain_to(gifts, led, house)
@@ -60,15 +60,6 @@ def judge_chain(yard, row, gifts, value):
     if fault is None:
         fault = _full_fault(yard, gifts, value)
     return fault
-
-
-def _held(yard, gifts):
-    """For each house the list of the requests that are given to it."""
-    held = [[] for _ in yard[1]]
-    for request, house in enumerate(gifts):
-        if house is not None:
-            held[house].append(request)
-    return held
 
 
 def _led_on(row, held, known, requests):
@@ -108,7 +99,7 @@ def _is_form(yard, row, value):
 
 
 def _is_pair_form(requests, houses, value):
-    if not isinstance(value, tuple) or len(value) != 2:
+    if not is_tuple_of(2, value):
         return False
     request, house = value
     return is_number(request) and request < requests and is_number(house) and house < houses

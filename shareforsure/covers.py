@@ -2,7 +2,7 @@
 
 from shareforsure.gifts import loads_of
 from shareforsure.most import best_gifts
-from shareforsure.words import are_numbers
+from shareforsure.words import are_numbers, is_tuple_of
 
 
 def cover(yard, row):
@@ -51,7 +51,7 @@ def _met_worths(yard, row, gifts):
 
 
 def _is_form(yard, row, value):
-    if not isinstance(value, tuple) or len(value) != 2:
+    if not is_tuple_of(2, value):
         return False
     houses, requests = value
     return are_numbers(houses, len(yard[1])) and are_numbers(requests, len(row))

@@ -1,6 +1,6 @@
 """Gifts for a yard and a row: whether a value is such, and what they come to."""
 
-from shareforsure.words import is_number
+from shareforsure.words import is_number, is_tuple_of
 
 
 def gifts_fault(yard, row, value):
@@ -28,6 +28,15 @@ def given_of(yard, gifts):
     return sum([worths[gift] for gift in gifts if gift is not None])
 
 
+def held_of(yard, gifts):
+    """For each house the list of the requests that are given to it, ascending."""
+    held = [[] for _ in yard[1]]
+    for request, house in enumerate(gifts):
+        if house is not None:
+            held[house].append(request)
+    return held
+
+
 def left_of(gifts):
     """The ascending list of the requests that are not given."""
     return [request for request, gift in enumerate(gifts) if gift is None]
@@ -44,7 +53,7 @@ def is_let(c, loads, request, gift):
 
 
 def _is_form(row, value):
-    if not isinstance(value, tuple) or len(value) != len(row):
+    if not is_tuple_of(len(row), value):
         return False
     return all([gift is None or is_number(gift) for gift in value])
 

@@ -1,34 +1,28 @@
 """The least share of a table giver on a small yard, and the papers that show it."""
 
-from math import gcd
-
-from shareforsure.standings import TableWalk, come_to, first_standing, given_of, most_of, standings
+from shareforsure.quotients import least_form, least_of
+from shareforsure.standings import (TableWalk, come_to, first_standing, is_met, is_standing_form, listed_fault,
+                                    order_fault, share_of, short_number, standings)
 from shareforsure.tables import check_small
-from shareforsure.words import are_numbers, is_number
+from shareforsure.words import is_number, is_tuple_of
 
 
 def least_share(yard, table):
     """The least share of a table giver on any row, a fraction in least form."""
-    least = (1, 1)
-    for standing in standings(yard, table):
-        given, most = given_of(yard, standing), most_of(yard, standing)
-        if given * least[1] < least[0] * most:
-            least = (given, most)
-    divisor = gcd(least[0], least[1])
-    return least[0] // divisor, least[1] // divisor
+    return least_form(least_of([share_of(yard, standing) for standing in standings(yard, table)]))
 
 
 def kept_paper(yard, table, p, q):
     """A kept paper for p / q, or None if there is none."""
     found = standings(yard, table)
-    return None if _short_number(yard, p, q, found) is not None else tuple(found)
+    return None if short_number(yard, p, q, found) is not None else tuple(found)
 
 
 def met_row(yard, table, p, q):
     """A row as short as can be on which at most p / q of the most is given, or None if there is none."""
     led = come_to(yard, table)
     for standing in led:
-        if _is_met(yard, p, q, standing):
+        if is_met(yard, p, q, standing):
             return _row_to(led, standing)
     return None
 
@@ -47,17 +41,15 @@ def late_paper(yard, table, p, q, m):
 def judge_kept(yard, table, p, q, value):
     """None if a value, which may be anything, is a kept paper, and otherwise its first fault."""
     check_small(yard)
-    if not isinstance(value, tuple) or not all([_is_standing_form(yard, standing) for standing in value]):
+    if not isinstance(value, tuple) or not all([is_standing_form(yard, standing) for standing in value]):
         return ("form",)
-    order = _order_number(value)
-    if order is not None:
-        return ("order", order)
-    if first_standing(yard) not in value:
-        return ("first",)
+    fault = listed_fault(yard, value)
+    if fault is not None:
+        return fault
     led = _led_out(yard, table, [(standing, 0) for standing in value], 1, 0)
     if led is not None:
         return ("led",) + led
-    short = _short_number(yard, p, q, value)
+    short = short_number(yard, p, q, value)
     return None if short is None else ("share", short)
 
 
@@ -66,9 +58,9 @@ def judge_late(yard, table, p, q, m, value):
     check_small(yard)
     if not isinstance(value, tuple) or not all([_is_late_form(yard, m, pair) for pair in value]):
         return ("form",)
-    order = _order_number([standing for standing, _ in value])
-    if order is not None:
-        return ("order", order)
+    fault = order_fault([standing for standing, _ in value])
+    if fault is not None:
+        return fault
     if (first_standing(yard), 0) not in value:
         return ("first",)
     led = _led_out(yard, table, value, m - 1, 1)
@@ -76,12 +68,6 @@ def judge_late(yard, table, p, q, m, value):
         return ("led",) + led
     met = _met_number(yard, p, q, value)
     return None if met is None else ("share", met)
-
-
-def _is_met(yard, p, q, standing):
-    """Whether the most of a standing is above 0, and its given at most p / q of it."""
-    most = most_of(yard, standing)
-    return most > 0 and q * given_of(yard, standing) <= p * most
 
 
 def _row_to(led, standing):
@@ -93,26 +79,10 @@ def _row_to(led, standing):
     return tuple(row[::-1])
 
 
-def _short_number(yard, p, q, found):
-    """The number of the first standing whose given is less than p / q of its most, or None."""
-    for number, standing in enumerate(found):
-        if q * given_of(yard, standing) < p * most_of(yard, standing):
-            return number
-    return None
-
-
 def _met_number(yard, p, q, pairs):
     """The number of the first pair whose standing is met, or None."""
     for number, (standing, _) in enumerate(pairs):
-        if _is_met(yard, p, q, standing):
-            return number
-    return None
-
-
-def _order_number(found):
-    """The number of the first standing that is not greater than the one ahead, or None."""
-    for number in range(1, len(found)):
-        if found[number] <= found[number - 1]:
+        if is_met(yard, p, q, standing):
             return number
     return None
 
@@ -132,22 +102,8 @@ def _led_out(yard, table, pairs, end, more):
     return None
 
 
-def _is_pair(value):
-    return isinstance(value, tuple) and len(value) == 2
-
-
-def _is_standing_form(yard, value):
-    if not _is_pair(value):
-        return False
-    c, worths = yard
-    loads, ranks = value
-    if not are_numbers(loads, len(worths)) or not are_numbers(ranks, 1 << len(worths)):
-        return False
-    return all([load <= c for load in loads])
-
-
 def _is_late_form(yard, m, value):
-    if not _is_pair(value):
+    if not is_tuple_of(2, value):
         return False
     standing, number = value
-    return _is_standing_form(yard, standing) and is_number(number) and number < m
+    return is_standing_form(yard, standing) and is_number(number) and number < m

@@ -2,7 +2,7 @@
 
 from shareforsure.gifts import left_of
 from shareforsure.players import SizedPlayer, bound_of, phase_many
-from shareforsure.words import are_numbers
+from shareforsure.words import are_numbers, is_tuple_of
 
 
 def judge_play(c, sizes, value):
@@ -41,7 +41,7 @@ def play_room(c, sizes, play):
 
 
 def _is_form(value):
-    if not isinstance(value, tuple) or len(value) != 2:
+    if not is_tuple_of(2, value):
         return False
     row, gifts = value
     return isinstance(row, tuple) and isinstance(gifts, tuple) and len(row) == len(gifts)

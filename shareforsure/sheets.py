@@ -5,14 +5,14 @@ A fault is the path to the first wrong part of a value, () for the value itself,
 
 from shareforsure.errors import BadTree, UnknownName
 from shareforsure.gifts import is_let
-from shareforsure.words import is_name, is_number
+from shareforsure.words import is_name, is_number, is_tuple_of
 
 PART_WORDS = ("row", "gifts", "cover", "giver")
 
 
 def check_yard(value):
     """Raises BadTree with the first wrong part if a value, which may be anything, is no yard."""
-    _raise_fault(_yard_fault(value))
+    _raise_fault(yard_fault(value))
 
 
 def check_row(yard, value):
@@ -27,7 +27,7 @@ def check_table(yard, value):
 
 def check_sheet(value):
     """Raises BadTree with the first wrong part if a value, which may be anything, is no sheet."""
-    _raise_fault(_sheet_fault(value))
+    _raise_fault(sheet_fault(value))
 
 
 def part_named(sheet, name):
@@ -46,10 +46,6 @@ def names_of(sheet, word):
 def _raise_fault(fault):
     if fault is not None:
         raise BadTree(fault)
-
-
-def _is_tuple_of(many, value):
-    return isinstance(value, tuple) and len(value) == many
 
 
 def _is_at_least_one(value):
@@ -72,8 +68,9 @@ def _whole_fault(is_right):
     return None if is_right else ()
 
 
-def _yard_fault(value):
-    if not _is_tuple_of(2, value):
+def yard_fault(value):
+    """The fault of what should be a yard."""
+    if not is_tuple_of(2, value):
         return ()
     c, worths = value
     if not _is_at_least_one(c):
@@ -84,7 +81,8 @@ def _yard_fault(value):
     return None if fault is None else (1,) + fault
 
 
-def _request_fault(yard, value):
+def request_fault(yard, value):
+    """The fault of what should be a request of a yard."""
     if not isinstance(value, tuple):
         return ()
     least = 0
@@ -96,32 +94,32 @@ def _request_fault(yard, value):
 
 
 def _row_fault(yard, value):
-    return _members_fault(value, lambda request: _request_fault(yard, request))
+    return _members_fault(value, lambda request: request_fault(yard, request))
 
 
 def loads_fault(yard, value):
     """The fault of what should be loads of a yard."""
     c, worths = yard
-    if not _is_tuple_of(len(worths), value):
+    if not is_tuple_of(len(worths), value):
         return ()
     return _members_fault(value, lambda load: _whole_fault(is_number(load) and load <= c))
 
 
 def _case_fault(yard, value):
     """The fault of what should be a pair of loads and a request."""
-    if not _is_tuple_of(2, value):
+    if not is_tuple_of(2, value):
         return ()
     loads, request = value
     fault = loads_fault(yard, loads)
     if fault is not None:
         return (0,) + fault
-    fault = _request_fault(yard, request)
+    fault = request_fault(yard, request)
     return None if fault is None else (1,) + fault
 
 
 def _entry_fault(yard, value, before):
     """The fault of a pair of a table, behind a case, or None for the first pair."""
-    if not _is_tuple_of(2, value):
+    if not is_tuple_of(2, value):
         return ()
     case, gift = value
     fault = _case_fault(yard, case)
@@ -151,7 +149,7 @@ def _gifts_fault(yard, value):
 
 
 def _cover_fault(value):
-    if not _is_tuple_of(2, value):
+    if not is_tuple_of(2, value):
         return ()
     return _members_fault(value, _numbers_fault)
 
@@ -171,9 +169,9 @@ def _value_fault(yard, word, value):
     return _table_fault(yard, value)
 
 
-def _part_fault(yard, value, earlier):
+def part_fault(yard, value, earlier):
     """The fault of a part, earlier being a dict with the names of the parts ahead."""
-    if not _is_tuple_of(3, value):
+    if not is_tuple_of(3, value):
         return ()
     word, name, told = value
     if word not in PART_WORDS:
@@ -189,18 +187,19 @@ def _parts_fault(yard, value):
         return ()
     earlier = {}
     for at, part in enumerate(value):
-        fault = _part_fault(yard, part, earlier)
+        fault = part_fault(yard, part, earlier)
         if fault is not None:
             return (at,) + fault
         earlier[part[1]] = True
     return None
 
 
-def _sheet_fault(value):
-    if not _is_tuple_of(2, value):
+def sheet_fault(value):
+    """The fault of what should be a sheet."""
+    if not is_tuple_of(2, value):
         return ()
     yard, parts = value
-    fault = _yard_fault(yard)
+    fault = yard_fault(yard)
     if fault is not None:
         return (0,) + fault
     fault = _parts_fault(yard, parts)

@@ -33,7 +33,7 @@ def read_sheet(text):
     reader = Reader(text)
     c, worths, parts = read_sheet_form(reader)
     reader.finish()
-    _check_many(runs_many(worths) + sum([part_many(part) for part in parts]))
+    check_many(runs_many(worths) + sum([part_many(part) for part in parts]))
     fault = read_sheet_fault(c, worths, parts)
     if fault is not None:
         raise BadTree(fault)
@@ -45,7 +45,7 @@ def read_row(text):
     reader = Reader(text)
     lots = read_lots(reader)
     reader.finish()
-    _check_many(lots_many(lots))
+    check_many(lots_many(lots))
     return told_lots(lots)
 
 
@@ -54,11 +54,12 @@ def read_gifts(text):
     reader = Reader(text)
     runs = read_gift_runs(reader)
     reader.finish()
-    _check_many(runs_many(runs))
+    check_many(runs_many(runs))
     return told_runs(runs)
 
 
-def _check_many(many):
+def check_many(many):
+    """Raises TooGreat if a text tells too many members."""
     if many > MOST_MEMBERS:
         raise TooGreat()
 

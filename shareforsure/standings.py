@@ -2,6 +2,7 @@
 
 from shareforsure.ranks import most_by, no_ranks, ranks_after
 from shareforsure.tables import check_small, gifts_by_case, requests_of
+from shareforsure.words import are_numbers, is_tuple_of
 
 
 class RankWalk:
@@ -63,6 +64,26 @@ def most_of(yard, standing):
     return most_by(yard, standing[1])
 
 
+def share_of(yard, standing):
+    """The share of a standing, a fraction, perhaps not in least form."""
+    most = most_of(yard, standing)
+    return (given_of(yard, standing), most) if most > 0 else (1, 1)
+
+
+def is_met(yard, p, q, standing):
+    """Whether the most of a standing is above 0, and its given at most p / q of it."""
+    most = most_of(yard, standing)
+    return most > 0 and q * given_of(yard, standing) <= p * most
+
+
+def short_number(yard, p, q, found):
+    """The number of the first one of some standings whose given is less than p / q of its most, or None."""
+    for number, standing in enumerate(found):
+        if q * given_of(yard, standing) < p * most_of(yard, standing):
+            return number
+    return None
+
+
 def standings(yard, table):
     """The ascending list of the standings that a table giver comes to."""
     return sorted(come_to(yard, table))
@@ -94,3 +115,30 @@ def loads_behind(loads, gift):
     if gift is None:
         return loads
     return loads[:gift] + (loads[gift] + 1,) + loads[gift + 1:]
+
+
+def is_standing_form(yard, value):
+    """Whether a value, which may be anything, has the form of a standing, any numbers standing for ranks."""
+    if not is_tuple_of(2, value):
+        return False
+    c, worths = yard
+    loads, ranks = value
+    if not are_numbers(loads, len(worths)) or not are_numbers(ranks, 1 << len(worths)):
+        return False
+    return all([load <= c for load in loads])
+
+
+def order_fault(found):
+    """The fault that a standing is not greater than the one ahead, or None."""
+    for number in range(1, len(found)):
+        if found[number] <= found[number - 1]:
+            return ("order", number)
+    return None
+
+
+def listed_fault(yard, found):
+    """The first fault of standings in form, as they are listed: that of their order, or that the first one lacks."""
+    fault = order_fault(found)
+    if fault is not None:
+        return fault
+    return None if first_standing(yard) in found else ("first",)

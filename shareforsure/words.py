@@ -25,6 +25,21 @@ def is_number(value):
     return isinstance(value, int) and not isinstance(value, bool) and value >= 0
 
 
+def is_tuple_of(many, value):
+    """Whether a value, which may be anything, is a tuple of so many members."""
+    return isinstance(value, tuple) and len(value) == many
+
+
+def is_worded(members, value):
+    """Whether a value, which may be anything, is a tuple that begins with one of some words and has as many members.
+
+    A dict tells for each of the words how many members these are, the word among them.
+    """
+    if not isinstance(value, tuple) or value == () or not isinstance(value[0], str):
+        return False
+    return value[0] in members and len(value) == members[value[0]]
+
+
 def are_numbers(value, many):
     """Whether a value, which may be anything, is a tuple of so many numbers."""
-    return isinstance(value, tuple) and len(value) == many and all([is_number(member) for member in value])
+    return is_tuple_of(many, value) and all([is_number(member) for member in value])
