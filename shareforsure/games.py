@@ -3,7 +3,7 @@
 from shareforsure.quotients import greatest_of, least_form, least_of
 from shareforsure.ranks import ranks_after
 from shareforsure.standings import RankWalk, first_standing, loads_behind, share_of
-from shareforsure.tables import check_small, requests_of
+from shareforsure.tables import requests_of
 
 
 class Game:
@@ -62,7 +62,6 @@ def led(yard, standing, request, gift):
 
 def value(yard, standing):
     """The value of a standing, a fraction in least form."""
-    check_small(yard)
     return least_form(Game(yard).value_of(standing))
 
 

@@ -2,7 +2,7 @@
 
 from shareforsure.errors import TooGreat
 from shareforsure.givers import strongest
-from shareforsure.rises import power, pull
+from shareforsure.rises import pull
 
 MOST_LOADS = 27
 
@@ -10,8 +10,12 @@ MOST_LOADS = 27
 def check_small(yard):
     """Raises TooGreat if a yard has too many tuples of loads."""
     c, worths = yard
-    if power(c + 1, len(worths)) > MOST_LOADS:
-        raise TooGreat()
+    many = 1
+    for _ in worths:
+        # It stops at once, as there may be very many houses, and c may be very great.
+        many = many * (c + 1)
+        if many > MOST_LOADS:
+            raise TooGreat()
 
 
 def requests_of(yard):

@@ -46,10 +46,41 @@ INTERFACE = {
                     "met_row": ["yard", "table", "p", "q"], "late_paper": ["yard", "table", "p", "q", "m"],
                     "judge_kept": ["yard", "table", "p", "q", "value"],
                     "judge_late": ["yard", "table", "p", "q", "m", "value"]},
+    "games": {"raises": ["yard", "standing", "request"], "lets": ["yard", "standing", "request"],
+              "led": ["yard", "standing", "request", "gift"], "value": ["yard", "standing"], "best_share": ["yard"]},
+    "gamepapers": {"giver_paper": ["yard", "p", "q"], "player_paper": ["yard", "p", "q"],
+                   "judge_giver_paper": ["yard", "p", "q", "value"],
+                   "judge_player_paper": ["yard", "p", "q", "value"]},
+    "matches": {"PaperGiver": ["yard", "paper"], "PaperPlayer": ["yard", "paper"],
+                "played": ["yard", "paper", "giver"]},
+    "eager": {"first_gifts": ["yard", "m", "row"], "FirstGiver": ["yard", "m"],
+              "is_eager": ["yard", "m", "row", "gifts"], "bare_row": ["m", "c"]},
+    "charges": {"charge_paper": ["yard", "m", "row", "gifts", "others"],
+                "judge_charges": ["yard", "m", "row", "gifts", "others", "value"]},
+    "households": {"Household": ["yard", "names"]},
+    "asks": {"check_day": ["names", "value"]},
+    "office": {"Office": ["yard", "names", "day", "giver"]},
+    "books": {"total": ["books"], "earned": ["books"]},
+    "desk": {"Desk": []},
+    "console": {"Console": ["desk"]},
 }
 CLASS_METHODS = {
     "givers": {"ToldGiver": {"give": ["request"], "loads": []}, "CallGiver": {"give": ["request"]},
                "RowGiver": {"give": ["request"]}},
+    "matches": {"PaperGiver": {"give": ["request"], "standing": []},
+                "PaperPlayer": {"asks": [], "told": ["gift"], "standing": []}},
+    "eager": {"FirstGiver": {"give": ["request"]}},
+    "households": {"Household": {"yard": [], "names": [], "name_of": ["number"], "number_of": ["name"],
+                                 "worth_of": ["name"], "is_here": ["name"], "room_of": ["name"], "come": ["name"],
+                                 "fall": ["name"], "here": [], "loads": [], "seen": ["names"], "take": ["name"]}},
+    "office": {"Office": {"events": [], "is_over": [], "step": [], "here": [], "loads": [], "row": [], "gifts": [],
+                          "books": [], "turned_away": []}},
+    "desk": {"Desk": {"sheet": [], "act_word": ["act"], "do": ["act"], "undo": [], "redo": [], "acts": [],
+                      "most": ["name"], "told": ["name"], "quotient": ["name"], "run": ["name"],
+                      "given": ["row", "gifts"], "ran": ["giver", "row"], "show": ["row", "gifts", "cover"],
+                      "least": ["name"], "best": [], "work": [], "mark": ["name"], "since": ["name"], "marks": [],
+                      "twin": []}},
+    "console": {"Console": {"answer": ["line"]}},
 }
 LIBRARY = {"math": ["gcd"]}
 BARRED = ("type typing typing_extensions enum Enum IntEnum StrEnum Flag IntFlag Generic Protocol ABC ABCMeta "
@@ -99,14 +130,14 @@ class Interface(unittest.TestCase):
                     self.assertEqual(arguments, [part.arg for part in node.args.args], name)
                     self.assertEqual([], node.args.defaults, name)
 
-
     def test_each_method_is_defined_in_its_class(self):
         for module, classes in CLASS_METHODS.items():
             for node in tree_of(FOLDER / (module + ".py")).body:
                 if isinstance(node, ast.ClassDef) and node.name in classes:
                     told = {row.name: [part.arg for part in row.args.args[1:]] for row in node.body
-                            if isinstance(row, ast.FunctionDef) and row.name != "__init__"}
+                            if isinstance(row, ast.FunctionDef) and not row.name.startswith("_")}
                     self.assertEqual(classes[node.name], told, node.name)
+                    self.assertFalse([row for row in node.body if getattr(row, "args", None) and row.args.defaults])
 
 
 class Language(unittest.TestCase):
