@@ -163,6 +163,9 @@ class Lines(Case):
         self.answers(console, ("giver t;", "done"), ("yard 3 : 1 x 3;", "done"), ("least t;", "no great"),
                      ("best;", "no great"), ("least r;", "no sort"), ("least x;", "no name"), ("ran t r;", "0"))
         self.assertEqual((0, 0), desk.work())
+        # Far too great is told at once, too.
+        self.answers(console, ("yard " + "9" * 40 + " : 1 x 90000;", "done"), ("best;", "no great"),
+                     ("least t;", "no great"))
 
     def test_two_consoles_on_one_desk(self):
         desk = Desk()
